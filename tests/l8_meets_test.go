@@ -675,36 +675,50 @@ func TestFirstIsTheFirstOfAllParts(t *testing.T) {
 	}
 }
 
+// blockedTally counts how often a ray was blocked, and how often not.
+type blockedTally struct{ blocked, free int }
+
+// check holds what is told of from where to where a ray is blocked against the spans, in order or not, where it is.
+func (n *blockedTally) check(t *testing.T, source *rand.Rand, spans []impl.Span, blocked func(from int, to int) bool) {
+	t.Helper()
+	ends := []int{-impl.Far, impl.Far, 0, source.Intn(9000)}
+	for _, s := range spans {
+		for _, at := range []int{s.From, s.To} {
+			ends = append(ends, max(at-1, -impl.Far), at, min(at+1, impl.Far))
+		}
+	}
+	for range 30 {
+		from, to := ends[source.Intn(len(ends))], ends[source.Intn(len(ends))]
+		want := slices.ContainsFunc(spans, func(s impl.Span) bool { return max(s.From, from) < min(s.To, to) })
+		if got := blocked(from, to); got != want {
+			t.Fatalf("blocked from %d to %d: %v, with %v", from, to, got, spans)
+		}
+		if want {
+			n.blocked++
+		} else {
+			n.free++
+		}
+	}
+}
+
+// checkOften wants many cases of both.
+func (n *blockedTally) checkOften(t *testing.T) {
+	t.Helper()
+	if n.blocked < 5000 || n.free < 5000 {
+		t.Errorf("%d are blocked, %d are not", n.blocked, n.free)
+	}
+}
+
 func TestBlockedAgainstParts(t *testing.T) {
 	source := rand.New(rand.NewSource(888))
-	blocked, free := 0, 0
+	tally := blockedTally{}
 	for round := range 600 {
 		list := someSolid(source, 1+round%impl.MaxParts, smallMotions())
 		for _, r := range raysAround(source, 4) {
-			spans := wayOf(list, r).spans()
-			ends := []int{-impl.Far, impl.Far, 0, source.Intn(9000)}
-			for _, s := range spans {
-				for _, at := range []int{s.From, s.To} {
-					ends = append(ends, max(at-1, -impl.Far), at, min(at+1, impl.Far))
-				}
-			}
-			for range 30 {
-				from, to := ends[source.Intn(len(ends))], ends[source.Intn(len(ends))]
-				want := slices.ContainsFunc(spans, func(s impl.Span) bool { return max(s.From, from) < min(s.To, to) })
-				if got := impl.Blocked(list, r, from, to); got != want {
-					t.Fatalf("Blocked(%v, %v, %d, %d) = %v, with %v", list, r, from, to, got, spans)
-				}
-				if want {
-					blocked++
-				} else {
-					free++
-				}
-			}
+			tally.check(t, source, wayOf(list, r).spans(), func(from int, to int) bool { return impl.Blocked(list, r, from, to) })
 		}
 	}
-	if blocked < 5000 || free < 5000 {
-		t.Errorf("%d are blocked, %d are not", blocked, free)
-	}
+	tally.checkOften(t)
 }
 
 func TestMovedSolidsAreMetAtTheSamePlaces(t *testing.T) {
